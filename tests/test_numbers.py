@@ -2,19 +2,13 @@
 
 import unittest
 
-from partbook.errors import BadNumber, BookError
+from partbook.errors import BadNumber
 from partbook.numbers import parts, prime_parts, sign
+from plainly import (
+    BELOW_ONE, LAST, NUMBERS, PRIMES, assert_refused, parts_by_trying, prime_parts_by_trying, sign_by_trying,
+)
 
-# Somewhat beyond the thousand of point 1.
-LAST = 1100
-NUMBERS = range(1, LAST + 1)
 BEYOND = (1009, 1024, 1260, 2310, 2401, 5040, 9973, 10000, 30030)
-# The last one has more figures than Python writes as a text.
-BELOW_ONE = (0, -1, -2, -4, -6, -7, -12, -30, -360, -1000, -(10 ** 100), -(10 ** 5000))
-
-
-def parts_by_trying(number):
-    return [part for part in range(1, number + 1) if number % part == 0]
 
 
 def parts_by_multiples(last):
@@ -23,27 +17,6 @@ def parts_by_multiples(last):
         for number in range(part, last + 1, part):
             found[number].append(part)
     return found
-
-
-PRIMES = [number for number in NUMBERS if len(parts_by_trying(number)) == 2]
-
-
-def prime_parts_by_trying(number):
-    pairs = []
-    for prime in PRIMES:
-        times = 0
-        while number % prime ** (times + 1) == 0:
-            times += 1
-        if times:
-            pairs.append((prime, times))
-    return pairs
-
-
-def sign_by_trying(number):
-    if any(number % (prime * prime) == 0 for prime in PRIMES):
-        return 0
-    count = sum(1 for prime in PRIMES if number % prime == 0)
-    return 1 if count % 2 == 0 else -1
 
 
 class Parts(unittest.TestCase):
@@ -208,20 +181,10 @@ class Sign(unittest.TestCase):
 
 
 class Refusals(unittest.TestCase):
-    def assert_refused(self, function):
-        for number in BELOW_ONE:
-            with self.assertRaises(BookError) as caught:
-                function(number)
-            self.assertIs(type(caught.exception), BadNumber)
-
-    def test_parts(self):
-        self.assert_refused(parts)
-
-    def test_prime_parts(self):
-        self.assert_refused(prime_parts)
-
-    def test_sign(self):
-        self.assert_refused(sign)
+    def test_below_one(self):
+        for function in (parts, prime_parts, sign):
+            for number in BELOW_ONE:
+                assert_refused(self, BadNumber, function, number)
 
     def test_one_is_not_refused(self):
         self.assertEqual((parts(1), prime_parts(1), sign(1)), ([1], [], 1))
